@@ -1,0 +1,1 @@
+"""Growurns: urns into which more is put back."""

@@ -1,0 +1,137 @@
+"""What the head of the document promises over all functions."""
+
+import copy
+import unittest
+from math import gcd
+
+from growurns.errors import UrnError
+from growurns.stands import growth, stands, ways, ways_to
+from growurns.urns import after, chance, chance_of, is_rule, is_urn, urn_behind
+from tests.helpers import CROSSED, EVEN_FOUR, FOUR, POLYA, no_draws_of_two, no_numbers_up_to
+from tests.helpers import no_rules_of_two, no_urns, no_urns_behind, square
+
+QUESTIONS = [
+    (is_urn, ((1, 2),)), (is_urn, ([1, 2],)), (is_urn, ({0: [1]},)), (is_urn, (([1], 2),)),
+    (is_rule, (2, POLYA)), (is_rule, (2, [[1, 0], [0, 1]])), (is_rule, (2, ([1, 0], [0, 1]))),
+    (chance, ((1, 2), 0)), (after, ((1, 2), CROSSED, 1)),
+    (chance_of, ((1, 2), CROSSED, (0, 1, 1))), (urn_behind, ((1, 2), CROSSED, (0, 1, 1))),
+    (urn_behind, ((0, 2), CROSSED, (0,))), (urn_behind, ((0, 2), CROSSED, ())),
+    (stands, ((1, 2), CROSSED, 0)), (stands, ((1, 2), CROSSED, 6)), (stands, ((1, 2, 3, 4), FOUR, 3)),
+    (growth, (2, POLYA)), (growth, (2, CROSSED)), (ways, ((1, 2), POLYA, 40)),
+    (ways_to, ((1, 2), POLYA, 6, (4, 5))),
+]
+
+
+def spoil(thing):
+    """Change every list and dict of a thing."""
+    if isinstance(thing, (list, tuple)):
+        for part in thing:
+            spoil(part)
+    if isinstance(thing, list):
+        thing.clear()
+        thing.append("spoilt")
+    if isinstance(thing, dict):
+        thing.clear()
+
+
+def lists_of(thing):
+    """Every list of a thing, itself, too."""
+    parts = thing if isinstance(thing, (list, tuple)) else []
+    found = [thing] if isinstance(thing, list) else []
+    return found + [inner for part in parts for inner in lists_of(part)]
+
+
+class TestWhatIsHandedIn(unittest.TestCase):
+
+    def test_is_unchanged(self):
+        for call, arguments in QUESTIONS:
+            before = copy.deepcopy(arguments)
+            call(*arguments)
+            self.assertEqual(repr(arguments), repr(before), call.__name__)
+
+    def test_is_unchanged_where_it_is_refused(self):
+        refused = [(chance, (urn, 0)) for urn in no_urns()]
+        refused += [(after, ((1, 2), rule, 0)) for rule in no_rules_of_two()]
+        refused += [(chance_of, ((1, 2), POLYA, draws)) for draws in no_draws_of_two()]
+        refused += [(stands, ((1, 2), POLYA, draws)) for draws in no_numbers_up_to(6)]
+        refused += [(ways_to, ((1, 2), POLYA, 1, other)) for other in no_urns_behind()]
+        for call, arguments in refused:
+            before = copy.deepcopy(arguments)
+            with self.assertRaises(UrnError):
+                call(*arguments)
+            self.assertEqual(repr(arguments), repr(before), call.__name__)
+
+    def test_is_not_kept(self):
+        for call, arguments in QUESTIONS:
+            handed_in = copy.deepcopy(arguments)
+            told = copy.deepcopy(call(*handed_in))
+            spoil(handed_in)
+            self.assertEqual(call(*copy.deepcopy(arguments)), told, call.__name__)
+
+    def test_no_part_of_it_is_told(self):
+        for call, arguments in QUESTIONS:
+            told = call(*arguments)
+            for thing in arguments:
+                if isinstance(thing, (tuple, list)):
+                    self.assertIsNot(told, thing)
+                    for inner in lists_of(told):
+                        self.assertTrue(all(part[0] is not thing for part in inner))
+
+
+class TestWhatIsTold(unittest.TestCase):
+
+    def test_the_same_again(self):
+        for call, arguments in QUESTIONS:
+            self.assertEqual(repr(call(*arguments)), repr(call(*arguments)), call.__name__)
+
+    def test_is_the_askers_own(self):
+        for call, arguments in QUESTIONS:
+            told = call(*arguments)
+            kept = copy.deepcopy(told)
+            spoil(told)
+            self.assertEqual(call(*arguments), kept, call.__name__)
+
+    def test_no_two_lists_are_one(self):
+        for call, arguments in QUESTIONS:
+            found = lists_of(call(*arguments)) + lists_of(call(*arguments))
+            self.assertEqual(len({id(inner) for inner in found}), len(found), call.__name__)
+
+    def test_a_refusal_changes_nothing_that_is_told_later(self):
+        before = stands((1, 2), CROSSED, 4)
+        for draws in no_numbers_up_to(6):
+            with self.assertRaises(UrnError):
+                stands((1, 2), CROSSED, draws)
+        self.assertEqual(stands((1, 2), CROSSED, 4), before)
+
+
+class TestFractions(unittest.TestCase):
+
+    def check(self, told):
+        self.assertIs(type(told), tuple)
+        top, bottom = told
+        self.assertIs(type(top), int)
+        self.assertIs(type(bottom), int)
+        self.assertGreaterEqual(bottom, 1)
+        self.assertEqual(gcd(top, bottom), 1)
+
+    def test_in_lowest_terms(self):
+        for urn in [(2, 4), (0, 6), (6, 0), (20, 20), (15, 5)]:
+            for rule in [POLYA, CROSSED, square(2, 0), square(2, 4)]:
+                self.check(chance(urn, 0))
+                self.check(chance_of(urn, rule, (0, 1, 0, 1)))
+                for draws in (0, 1, 6):
+                    for behind, told in stands(urn, rule, draws):
+                        self.check(told)
+        for behind, told in stands((20, 16, 12, 8), EVEN_FOUR, 6):
+            self.check(told)
+
+    def test_of_nought_and_of_whole_ones(self):
+        self.assertEqual(chance((0, 6), 0), (0, 1))
+        self.assertEqual(chance((0, 6), 1), (1, 1))
+        self.assertEqual(chance_of((0, 6), POLYA, (1, 0)), (0, 1))
+        self.assertEqual(chance_of((0, 6), POLYA, (1, 1)), (1, 1))
+        self.assertEqual(stands((4, 6), square(2, 2), 2), [((8, 10), (1, 1))])
+
+
+if __name__ == "__main__":
+    unittest.main()
