@@ -3,12 +3,15 @@
 from growurns.errors import NoNumber
 
 
+def is_number(thing):
+    """Tell whether a thing is a whole number."""
+    # True and False are ints to Python, but no whole numbers here.
+    return isinstance(thing, int) and not isinstance(thing, bool)
+
+
 def is_whole(thing, low, high):
     """Tell whether a thing is a whole number from low to high."""
-    # True and False are ints to Python, but no whole numbers here.
-    if isinstance(thing, bool) or not isinstance(thing, int):
-        return False
-    return low <= thing <= high
+    return is_number(thing) and low <= thing <= high
 
 
 def are_wholes(thing, low, high):
@@ -35,6 +38,15 @@ def fraction(top, bottom):
     return (top // divisor, bottom // divisor)
 
 
+def is_fraction(thing):
+    """Tell whether a thing is a fraction in lowest terms."""
+    if not isinstance(thing, tuple) or len(thing) != 2:
+        return False
+    if not is_number(thing[0]) or not is_number(thing[1]):
+        return False
+    return thing[1] >= 1 and greatest_divisor(thing[0], thing[1]) == 1
+
+
 def plus(one, other):
     """The sum of two fractions."""
     return fraction(one[0] * other[1] + other[0] * one[1], one[1] * other[1])
@@ -43,3 +55,16 @@ def plus(one, other):
 def times(one, other):
     """The product of two fractions."""
     return fraction(one[0] * other[0], one[1] * other[1])
+
+
+def minus(one, other):
+    """The first fraction less the other one."""
+    return plus(one, (-other[0], other[1]))
+
+
+def total(fractions):
+    """The sum of a list or tuple of fractions, perhaps of none."""
+    so_far = (0, 1)
+    for part in fractions:
+        so_far = plus(so_far, part)
+    return so_far

@@ -14,12 +14,30 @@ REFUSALS = (
 
 HUGE = 10 ** 30 - 1
 
+
+def square(kinds, number):
+    """The rule that puts in the same number of every kind."""
+    return tuple((number,) * kinds for row in range(kinds))
+
+
 POLYA = ((1, 0), (0, 1))
 CROSSED = ((0, 2), (3, 1))
 FOUR = ((0, 1, 2, 3), (5, 4, 3, 2), (1, 1, 1, 1), (0, 0, 0, 0))
 SWAPPED = ((1, 2), (3, 0))
 EVEN_THREE = ((0, 1, 1), (2, 0, 0), (0, 0, 2))
 EVEN_FOUR = ((5, 0, 0, 0), (0, 2, 2, 1), (1, 1, 1, 2), (0, 0, 0, 5))
+OWN_ALONE = ((3, 0), (0, 1))
+OWN_FOUR = ((5, 0, 0, 0), (0, 5, 0, 0), (0, 0, 5, 0), (0, 0, 0, 5))
+
+# Urns and rules of one to four kinds: without a ball of some kind, rules that put
+# in nothing, only the kind that was drawn, even ones and others.
+COURSES = [
+    ((5,), ((2,),)), ((20,), ((0,),)), ((1, 1), POLYA), ((4, 2), POLYA), ((0, 3), POLYA),
+    ((1, 2), CROSSED), ((0, 3), CROSSED), ((7, 0), SWAPPED), ((20, 20), square(2, 5)),
+    ((3, 4), square(2, 0)), ((2, 3), OWN_ALONE), ((1, 1), ((0, 0), (5, 0))),
+    ((2, 0, 1), EVEN_THREE), ((0, 6, 3), ((2, 0, 0), (0, 2, 0), (0, 0, 2))),
+    ((1, 0, 2, 4), FOUR), ((1, 2, 0, 4), OWN_FOUR), ((20, 19, 18, 17), EVEN_FOUR), ((0, 0, 0, 1), FOUR),
+]
 
 
 def no_tuples():
@@ -45,11 +63,6 @@ def wrong_parts():
         None, True, False, -1, -HUGE, HUGE, "", "1", [], [1], (), (1,), {}, {1: 1},
         ((((1,),),),),
     ]
-
-
-def square(kinds, number):
-    """The rule that puts in the same number of every kind."""
-    return tuple((number,) * kinds for row in range(kinds))
 
 
 def no_urns():
@@ -95,6 +108,16 @@ def no_numbers_up_to(most):
     return no_numbers() + [most + 1, -1, HUGE, -HUGE]
 
 
+def no_counts_of_two():
+    """Things that are no counts of an urn of two kinds."""
+    wrong = no_tuples()
+    wrong += [(), (1,), (1, 2, 3), (1, 2, 3, 4), (0,), (0, 0, 0), (40,), (41, 0), (0, 41), (40, 1), (20, 21)]
+    wrong += [(-1, 1), (1, -1), (-1, 41), (42, -1), ((1, 2),), ((1,), (2,)), (1,) * 400]
+    for part in wrong_parts():
+        wrong += [(part, 1), (1, part), (part,), (part, part), (1, 2, part)]
+    return wrong
+
+
 def no_urns_behind():
     """Things that are no last urns of two kinds."""
     wrong = no_tuples()
@@ -115,6 +138,17 @@ def exact_course(urn, rule, draws):
     return so_far, tuple(now) if so_far else None
 
 
+def every_order(urn, rule, draws):
+    """The tuples (draws, chance, urn behind) of all draws of so many, also of those without a chance."""
+    orders = itertools.product(range(len(urn)), repeat=draws)
+    return [(order, *exact_course(urn, rule, order)) for order in orders]
+
+
+def pair(exact):
+    """One of Python's own fractions, as the program tells it."""
+    return (exact.numerator, exact.denominator)
+
+
 class UrnCase(unittest.TestCase):
 
     def refuses(self, due, call, *arguments):
@@ -133,6 +167,13 @@ class UrnCase(unittest.TestCase):
         before = copy.deepcopy(arguments)
         self.assertEqual(repr(call(*arguments)), repr(answer), f"{call.__name__}{arguments!r}")
         self.assertEqual(repr(arguments), repr(before))
+
+    def refuses_urns_and_rules(self, call, *others):
+        """What is no urn is refused, and what is no rule of two kinds; the others are right."""
+        for urn in no_urns():
+            self.refuses(errors.NoUrn, call, urn, POLYA, *others)
+        for rule in no_rules_of_two():
+            self.refuses(errors.NoRule, call, (1, 2), rule, *others)
 
     def refuses_in_order(self, call, places):
         """Whichever places are wrong together, the leftmost of them is refused.

@@ -110,6 +110,19 @@ class TestLanguage(unittest.TestCase):
                 self.assertFalse(node.arg in dir(builtins) or node.arg in BARRED_NAMES, f"{name}: {node.arg}")
                 self.assertFalse(node.arg.startswith("_"), f"{name}: {node.arg}")
 
+    def test_no_local_name_is_that_of_an_import_or_a_class(self):
+        for name, text in sources():
+            tree = ast.parse(text)
+            taken = {node.name for node in tree.body if isinstance(node, ast.ClassDef)}
+            for node in tree.body:
+                if isinstance(node, ast.ImportFrom):
+                    taken |= {alias.asname or alias.name for alias in node.names}
+            for node in ast.walk(tree):
+                if isinstance(node, ast.arg):
+                    self.assertNotIn(node.arg, taken, name)
+                if isinstance(node, ast.Name) and isinstance(node.ctx, ast.Store):
+                    self.assertNotIn(node.id, taken, name)
+
     def test_module_level(self):
         for name, text in sources():
             bound = []

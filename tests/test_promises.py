@@ -5,10 +5,14 @@ import unittest
 from math import gcd
 
 from growurns.errors import UrnError
+from growurns.means import is_fair, mean, mean_shares, spread
+from growurns.orders import any_order, first_unlike, orders_alike
+from growurns.rests import is_rest, rest
+from growurns.simple import counts_chance, next_shares
 from growurns.stands import growth, stands, ways, ways_to
 from growurns.urns import after, chance, chance_of, is_rule, is_urn, urn_behind
-from tests.helpers import CROSSED, EVEN_FOUR, FOUR, POLYA, no_draws_of_two, no_numbers_up_to
-from tests.helpers import no_rules_of_two, no_urns, no_urns_behind, square
+from tests.helpers import CROSSED, EVEN_FOUR, FOUR, POLYA, SWAPPED, no_counts_of_two, no_draws_of_two
+from tests.helpers import no_numbers_up_to, no_rules_of_two, no_urns, no_urns_behind, square
 
 QUESTIONS = [
     (is_urn, ((1, 2),)), (is_urn, ([1, 2],)), (is_urn, ({0: [1]},)), (is_urn, (([1], 2),)),
@@ -19,7 +23,19 @@ QUESTIONS = [
     (stands, ((1, 2), CROSSED, 0)), (stands, ((1, 2), CROSSED, 6)), (stands, ((1, 2, 3, 4), FOUR, 3)),
     (growth, (2, POLYA)), (growth, (2, CROSSED)), (ways, ((1, 2), POLYA, 40)),
     (ways_to, ((1, 2), POLYA, 6, (4, 5))),
+    (mean, ((1, 2), CROSSED, 0)), (mean, ((1, 2, 3, 4), FOUR, 4)), (mean_shares, ((1, 2), CROSSED, 0)),
+    (mean_shares, ((1, 2, 3, 4), FOUR, 4)), (is_fair, ((1, 2), CROSSED)), (is_fair, ((1, 2), POLYA)),
+    (spread, ((1, 2), CROSSED, 1, 6)), (orders_alike, ((1, 2), CROSSED, 3)), (first_unlike, ((1, 2), CROSSED, 3)),
+    (first_unlike, ((1, 2), POLYA, 4)), (any_order, ((1, 2), CROSSED, (0, 1, 1))), (any_order, ((1, 2), CROSSED, ())),
+    (counts_chance, ((1, 2), 3, (4, 5))), (next_shares, ((1, 2), 3, (4, 5))), (next_shares, ((1, 2), 0, (0, 0))),
+    (next_shares, ((0, 2), 0, (1, 0))), (rest, (2, SWAPPED)), (rest, (2, POLYA)),
+    (is_rest, (2, SWAPPED, ((3, 5), (2, 5)))), (is_rest, (2, POLYA, [[1, 2], [1, 2]])),
+    (is_rest, (2, POLYA, ([1, 2], [1, 2]))), (is_rest, (2, POLYA, {0: [1, 2]})),
 ]
+
+# Those that tell one fraction, and those that tell a tuple of them, or None.
+FRACTIONS = (chance, chance_of, spread, any_order, counts_chance)
+FRACTIONS_BY_KIND = (mean, mean_shares, next_shares, rest)
 
 
 def spoil(thing):
@@ -34,11 +50,16 @@ def spoil(thing):
         thing.clear()
 
 
+def parts_of(thing):
+    """Every list and tuple of a thing, itself, too."""
+    if not isinstance(thing, (list, tuple)):
+        return []
+    return [thing] + [inner for part in thing for inner in parts_of(part)]
+
+
 def lists_of(thing):
     """Every list of a thing, itself, too."""
-    parts = thing if isinstance(thing, (list, tuple)) else []
-    found = [thing] if isinstance(thing, list) else []
-    return found + [inner for part in parts for inner in lists_of(part)]
+    return [part for part in parts_of(thing) if isinstance(part, list)]
 
 
 class TestWhatIsHandedIn(unittest.TestCase):
@@ -55,6 +76,8 @@ class TestWhatIsHandedIn(unittest.TestCase):
         refused += [(chance_of, ((1, 2), POLYA, draws)) for draws in no_draws_of_two()]
         refused += [(stands, ((1, 2), POLYA, draws)) for draws in no_numbers_up_to(6)]
         refused += [(ways_to, ((1, 2), POLYA, 1, other)) for other in no_urns_behind()]
+        refused += [(counts_chance, ((1, 2), 1, counts)) for counts in no_counts_of_two()]
+        refused += [(rest, (2, rule)) for rule in no_rules_of_two()]
         for call, arguments in refused:
             before = copy.deepcopy(arguments)
             with self.assertRaises(UrnError):
@@ -70,12 +93,10 @@ class TestWhatIsHandedIn(unittest.TestCase):
 
     def test_no_part_of_it_is_told(self):
         for call, arguments in QUESTIONS:
-            told = call(*arguments)
-            for thing in arguments:
-                if isinstance(thing, (tuple, list)):
-                    self.assertIsNot(told, thing)
-                    for inner in lists_of(told):
-                        self.assertTrue(all(part[0] is not thing for part in inner))
+            # There is but one tuple of nothing in Python, so it is left out.
+            handed_in = [thing for thing in parts_of(arguments) if thing != ()]
+            for part in parts_of(call(*arguments)):
+                self.assertTrue(all(part is not thing for thing in handed_in), call.__name__)
 
 
 class TestWhatIsTold(unittest.TestCase):
@@ -125,12 +146,29 @@ class TestFractions(unittest.TestCase):
         for behind, told in stands((20, 16, 12, 8), EVEN_FOUR, 6):
             self.check(told)
 
+    def test_of_every_function(self):
+        for call, arguments in QUESTIONS:
+            told = call(*arguments)
+            if call in FRACTIONS:
+                self.check(told)
+            if call in FRACTIONS_BY_KIND and told is not None:
+                self.assertIs(type(told), tuple)
+                for part in told:
+                    self.check(part)
+
     def test_of_nought_and_of_whole_ones(self):
         self.assertEqual(chance((0, 6), 0), (0, 1))
         self.assertEqual(chance((0, 6), 1), (1, 1))
         self.assertEqual(chance_of((0, 6), POLYA, (1, 0)), (0, 1))
         self.assertEqual(chance_of((0, 6), POLYA, (1, 1)), (1, 1))
         self.assertEqual(stands((4, 6), square(2, 2), 2), [((8, 10), (1, 1))])
+        self.assertEqual(mean((4, 0), POLYA, 2), ((6, 1), (0, 1)))
+        self.assertEqual(mean_shares((4, 0), POLYA, 2), ((1, 1), (0, 1)))
+        self.assertEqual(spread((4, 0), POLYA, 0, 2), (0, 1))
+        self.assertEqual(any_order((0, 6), POLYA, (1, 0)), (0, 1))
+        self.assertEqual(counts_chance((0, 6), 2, (0, 5)), (1, 1))
+        self.assertEqual(next_shares((0, 6), 2, (0, 5)), ((0, 1), (1, 1)))
+        self.assertEqual(rest(2, ((2, 0), (1, 1))), ((1, 1), (0, 1)))
 
 
 if __name__ == "__main__":

@@ -5,18 +5,17 @@ from fractions import Fraction
 from growurns.errors import NoNumber, NoRule, NotEven, NoUrn
 from growurns.stands import growth, stands, ways, ways_to
 from growurns.urns import chance
-from tests.helpers import CROSSED, EVEN_FOUR, EVEN_THREE, FOUR, HUGE, POLYA, SWAPPED, UrnCase, exact_course
-from tests.helpers import no_numbers, no_numbers_up_to, no_rules_of_two, no_urns, no_urns_behind, square
+from tests.helpers import CROSSED, EVEN_FOUR, EVEN_THREE, FOUR, HUGE, POLYA, SWAPPED, UrnCase, every_order
+from tests.helpers import no_numbers, no_numbers_up_to, no_rules_of_two, no_urns_behind, pair, square
 
 
 def exact_stands(urn, rule, draws):
     """The stands, gone through order by order."""
     chances = {}
-    for order in itertools.product(range(len(urn)), repeat=draws):
-        exact, behind = exact_course(urn, rule, order)
+    for order, exact, behind in every_order(urn, rule, draws):
         if exact:
             chances[behind] = chances.get(behind, 0) + exact
-    return [(behind, (exact.numerator, exact.denominator)) for behind, exact in sorted(chances.items())]
+    return [(behind, pair(exact)) for behind, exact in sorted(chances.items())]
 
 
 def ways_ball_by_ball(urn, rule, draws):
@@ -85,10 +84,7 @@ class TestStands(UrnCase):
         self.tells([((50, 50), (1, 1))], stands, (20, 20), square(2, 5), 6)
 
     def test_refusals(self):
-        for urn in no_urns():
-            self.refuses(NoUrn, stands, urn, POLYA, 1)
-        for rule in no_rules_of_two():
-            self.refuses(NoRule, stands, (1, 2), rule, 1)
+        self.refuses_urns_and_rules(stands, 1)
         for draws in no_numbers_up_to(6):
             self.refuses(NoNumber, stands, (1, 2), POLYA, draws)
         self.refuses_in_order(stands, [
@@ -156,10 +152,7 @@ class TestWays(UrnCase):
                 self.tells(sum(ends.values()), ways, urn, rule, draws)
 
     def test_refusals(self):
-        for urn in no_urns():
-            self.refuses(NoUrn, ways, urn, POLYA, 1)
-        for rule in no_rules_of_two():
-            self.refuses(NoRule, ways, (1, 2), rule, 1)
+        self.refuses_urns_and_rules(ways, 1)
         for draws in no_numbers_up_to(40):
             self.refuses(NoNumber, ways, (1, 2), POLYA, draws)
         self.refuses(NotEven, ways, (1, 2), CROSSED, 1)
@@ -215,10 +208,7 @@ class TestWaysTo(UrnCase):
         self.tells(0, ways_to, (1, 1, 1, 1), EVEN_FOUR, 6, (60, 60, 60, 60))
 
     def test_refusals(self):
-        for urn in no_urns():
-            self.refuses(NoUrn, ways_to, urn, POLYA, 1, (1, 2))
-        for rule in no_rules_of_two():
-            self.refuses(NoRule, ways_to, (1, 2), rule, 1, (1, 2))
+        self.refuses_urns_and_rules(ways_to, 1, (1, 2))
         for draws in no_numbers_up_to(6):
             self.refuses(NoNumber, ways_to, (1, 2), POLYA, draws, (1, 2))
         for other in no_urns_behind():

@@ -5,7 +5,7 @@ from fractions import Fraction
 from growurns.errors import NoBall, NoDraws, NoKind, NoNumber, NoRule, NoUrn
 from growurns.urns import after, chance, chance_of, is_rule, is_urn, urn_behind
 from tests.helpers import CROSSED, FOUR, HUGE, POLYA, UrnCase, exact_course, no_draws_of_two
-from tests.helpers import no_kinds_of, no_numbers, no_rules_of_two, no_tuples, no_urns, square
+from tests.helpers import no_kinds_of, no_numbers, no_rules_of_two, no_tuples, no_urns, pair, square
 
 
 class TestIsUrn(UrnCase):
@@ -81,7 +81,7 @@ class TestChance(UrnCase):
             if urn != (0, 0):
                 for kind in (0, 1):
                     exact = Fraction(urn[kind], sum(urn))
-                    self.tells((exact.numerator, exact.denominator), chance, urn, kind)
+                    self.tells(pair(exact), chance, urn, kind)
 
     def test_refusals(self):
         for urn in no_urns():
@@ -115,10 +115,7 @@ class TestAfter(UrnCase):
         self.tells((1, 2), after, (0, 1), ((0, 0), (1, 1)), 1)
 
     def test_refusals(self):
-        for urn in no_urns():
-            self.refuses(NoUrn, after, urn, POLYA, 0)
-        for rule in no_rules_of_two():
-            self.refuses(NoRule, after, (1, 2), rule, 0)
+        self.refuses_urns_and_rules(after, 0)
         for kind in no_kinds_of(2):
             self.refuses(NoKind, after, (1, 2), POLYA, kind)
         self.refuses(NoBall, after, (0, 2), POLYA, 0)
@@ -138,7 +135,7 @@ class TestDraws(UrnCase):
 
     def check(self, urn, rule, draws):
         exact, behind = exact_course(urn, rule, draws)
-        self.tells((exact.numerator, exact.denominator), chance_of, urn, rule, draws)
+        self.tells(pair(exact), chance_of, urn, rule, draws)
         self.tells(behind, urn_behind, urn, rule, draws)
 
     def test_written_out(self):
@@ -190,10 +187,7 @@ class TestDraws(UrnCase):
 
     def test_refusals(self):
         for call in (chance_of, urn_behind):
-            for urn in no_urns():
-                self.refuses(NoUrn, call, urn, POLYA, (0, 1))
-            for rule in no_rules_of_two():
-                self.refuses(NoRule, call, (1, 2), rule, (0, 1))
+            self.refuses_urns_and_rules(call, (0, 1))
             for draws in no_draws_of_two():
                 self.refuses(NoDraws, call, (1, 2), POLYA, draws)
             self.refuses(NoDraws, call, (1,), ((1,),), (1,))
