@@ -166,7 +166,7 @@ class TestSpread(UrnCase):
                 self.check(urn, rule, draws)
 
     def test_six_draws(self):
-        for urn, rule in COURSES[:12]:
+        for urn, rule in COURSES[:12] + [((1, 0, 2, 4), FOUR)]:
             self.check(urn, rule, 6)
 
     def test_nought_where_nothing_hangs_on_the_draw(self):
