@@ -57,13 +57,18 @@ def next_chances_by_counts(chances, urn, rule, goal):
     return later
 
 
+def chances_by_counts(urn, rule, goal, draws):
+    """The chances by counts behind a number of draws, of those counts that do not go beyond the goal."""
+    # The urn hangs on the counts alone, so all orders with the same counts go on alike.
+    chances = {(0,) * len(urn): (1, 1)}
+    for turn in range(draws):
+        chances = next_chances_by_counts(chances, urn, rule, goal)
+    return chances
+
+
 def any_order(urn, rule, draws):
     """The chance that the kinds of the draws come, each as often, in whatever order."""
     need_urn_and_rule(urn, rule)
     need_draws(urn, draws)
     goal = tuple([draws.count(kind) for kind in range(len(urn))])
-    # The urn hangs on the counts alone, so all orders with the same counts go on alike.
-    chances = {(0,) * len(urn): (1, 1)}
-    for turn in range(len(draws)):
-        chances = next_chances_by_counts(chances, urn, rule, goal)
-    return chances[goal]
+    return chances_by_counts(urn, rule, goal, len(draws))[goal]

@@ -35,6 +35,16 @@ BARRED_NAMES = set("""
 """.split())
 
 
+METHODS = set("""
+    append clear copy count endswith extend find get index insert isalnum isalpha isdigit islower
+    isspace isupper items join keys ljust lower lstrip partition pop remove replace reverse rfind
+    rjust rpartition rsplit rstrip setdefault split splitlines startswith strip update upper values
+    zfill bit_length
+""".split())
+
+KINDS_OF_VALUES = (str, int, list, tuple, dict, set, bytes)
+
+
 def sources():
     """The tuples (file name, text) of the package."""
     found = []
@@ -109,6 +119,34 @@ class TestLanguage(unittest.TestCase):
             if isinstance(node, ast.arg):
                 self.assertFalse(node.arg in dir(builtins) or node.arg in BARRED_NAMES, f"{name}: {node.arg}")
                 self.assertFalse(node.arg.startswith("_"), f"{name}: {node.arg}")
+
+    def test_classes_and_methods(self):
+        own = {inner.name for name, node in nodes() if isinstance(node, ast.ClassDef)
+               for inner in node.body if isinstance(inner, ast.FunctionDef)}
+        for name, node in nodes():
+            if isinstance(node, ast.ClassDef):
+                self.assertLessEqual(len(node.bases), 1, node.name)
+                for at, inner in enumerate(node.body):
+                    docstring = at == 0 and isinstance(inner, ast.Expr)
+                    self.assertTrue(docstring or isinstance(inner, ast.FunctionDef), node.name)
+            if isinstance(node, ast.Call) and isinstance(node.func, ast.Attribute):
+                self.assertIn(node.func.attr, METHODS | own, name)
+            if isinstance(node, ast.Attribute) and isinstance(node.ctx, ast.Store):
+                self.assertNotIn(node.attr, own, name)
+                self.assertFalse(any(hasattr(kind, node.attr) for kind in KINDS_OF_VALUES), node.attr)
+        for method in own - {"__init__"}:
+            self.assertFalse(any(hasattr(kind, method) for kind in KINDS_OF_VALUES), method)
+
+    def test_no_two_files_import_from_each_other(self):
+        reached = {name[:-3]: set() for name, text in sources()}
+        for name, node in nodes():
+            if isinstance(node, ast.ImportFrom):
+                reached[name[:-3]].add(node.module.split(".")[1])
+        for step in reached:
+            for name in reached:
+                reached[name] |= {further for near in reached[name] for further in reached[near]}
+        for name, further in reached.items():
+            self.assertNotIn(name, further)
 
     def test_no_local_name_is_that_of_an_import_or_a_class(self):
         for name, text in sources():

@@ -4,15 +4,19 @@ import copy
 import unittest
 from math import gcd
 
+from growurns.desk import Desk
 from growurns.errors import UrnError
 from growurns.means import is_fair, mean, mean_shares, spread
+from growurns.notes import fraction_text, rule_read, rule_text, urn_read, urn_text
 from growurns.orders import any_order, first_unlike, orders_alike
 from growurns.rests import is_rest, rest
 from growurns.simple import counts_chance, next_shares
 from growurns.stands import growth, stands, ways, ways_to
+from growurns.two import two_shares, two_stands
 from growurns.urns import after, chance, chance_of, is_rule, is_urn, urn_behind
+from growurns.waits import all_drawn, first_drawn, not_drawn
 from tests.helpers import CROSSED, EVEN_FOUR, FOUR, POLYA, SWAPPED, no_counts_of_two, no_draws_of_two
-from tests.helpers import no_numbers_up_to, no_rules_of_two, no_urns, no_urns_behind, square
+from tests.helpers import no_kinds_of, no_numbers_up_to, no_rules_of_two, no_texts, no_urns, no_urns_behind, square
 
 QUESTIONS = [
     (is_urn, ((1, 2),)), (is_urn, ([1, 2],)), (is_urn, ({0: [1]},)), (is_urn, (([1], 2),)),
@@ -31,11 +35,24 @@ QUESTIONS = [
     (next_shares, ((0, 2), 0, (1, 0))), (rest, (2, SWAPPED)), (rest, (2, POLYA)),
     (is_rest, (2, SWAPPED, ((3, 5), (2, 5)))), (is_rest, (2, POLYA, [[1, 2], [1, 2]])),
     (is_rest, (2, POLYA, ([1, 2], [1, 2]))), (is_rest, (2, POLYA, {0: [1, 2]})),
+    (first_drawn, ((1, 2), CROSSED, 0, 0)), (first_drawn, ((1, 2), CROSSED, 0, 6)),
+    (first_drawn, ((0, 2), POLYA, 0, 6)), (first_drawn, ((5,), ((2,),), 0, 6)),
+    (first_drawn, ((1, 2, 3, 4), FOUR, 3, 4)),
+    (not_drawn, ((1, 2), CROSSED, 0, 0)), (not_drawn, ((1, 2), CROSSED, 0, 6)), (not_drawn, ((5,), ((2,),), 0, 6)),
+    (all_drawn, ((1, 2), CROSSED, 0)), (all_drawn, ((1, 2), CROSSED, 6)), (all_drawn, ((0, 2), POLYA, 6)),
+    (two_stands, ((1, 2), (2, 1), CROSSED, 0)), (two_stands, ((1, 2), (2, 1), CROSSED, 4)),
+    (two_stands, ((1, 2), (2, 1), square(2, 0), 3)), (two_stands, ((1, 2, 3, 4), (4, 0, 2, 1), FOUR, 3)),
+    (two_shares, ((1, 2), (2, 1), CROSSED, 0)), (two_shares, ((1, 2), (2, 1), CROSSED, 4)),
+    (two_shares, ((0, 2), (0, 1), POLYA, 4)), (two_shares, ((5,), (1,), ((2,),), 3)),
+    (urn_text, ((1, 2),)), (rule_text, (CROSSED,)), (fraction_text, ((1, 2),)), (fraction_text, ((3, 1),)),
+    (urn_read, ("1,2",)), (rule_read, (2, "0,2/3,1")),
 ]
 
-# Those that tell one fraction, and those that tell a tuple of them, or None.
-FRACTIONS = (chance, chance_of, spread, any_order, counts_chance)
+# Those that tell one fraction, those that tell a tuple of them, or None, and those
+# that tell tuples whose last part is one.
+FRACTIONS = (chance, chance_of, spread, any_order, counts_chance, not_drawn, all_drawn)
 FRACTIONS_BY_KIND = (mean, mean_shares, next_shares, rest)
+FRACTIONS_BEHIND = (stands, two_stands)
 
 
 def spoil(thing):
@@ -78,6 +95,13 @@ class TestWhatIsHandedIn(unittest.TestCase):
         refused += [(ways_to, ((1, 2), POLYA, 1, other)) for other in no_urns_behind()]
         refused += [(counts_chance, ((1, 2), 1, counts)) for counts in no_counts_of_two()]
         refused += [(rest, (2, rule)) for rule in no_rules_of_two()]
+        refused += [(first_drawn, ((1, 2), POLYA, kind, 1)) for kind in no_kinds_of(2)]
+        refused += [(all_drawn, ((1, 2), POLYA, draws)) for draws in no_numbers_up_to(6)]
+        refused += [(two_stands, (urn, (1, 2), POLYA, 1)) for urn in no_urns()]
+        refused += [(two_shares, ((1, 2), urn, POLYA, 1)) for urn in no_urns()]
+        refused += [(urn_read, (thing,)) for thing in no_texts()]
+        refused += [(rule_read, (2, thing)) for thing in no_texts()]
+        refused += [(Desk().say, (thing,)) for thing in no_texts()]
         for call, arguments in refused:
             before = copy.deepcopy(arguments)
             with self.assertRaises(UrnError):
@@ -155,6 +179,26 @@ class TestFractions(unittest.TestCase):
                 self.assertIs(type(told), tuple)
                 for part in told:
                     self.check(part)
+            if call in FRACTIONS_BEHIND:
+                self.assertIs(type(told), list)
+                for stand in told:
+                    self.assertIs(type(stand), tuple)
+                    self.check(stand[-1])
+
+    def test_of_waits_and_of_two_urns(self):
+        for call, arguments in QUESTIONS:
+            told = call(*arguments)
+            if call == first_drawn:
+                self.assertIs(type(told), list)
+                self.assertEqual(len(told), arguments[-1])
+                for part in told:
+                    self.check(part)
+            if call == two_shares:
+                self.assertEqual((type(told), len(told)), (tuple, 2))
+                for shares in told:
+                    self.assertEqual((type(shares), len(shares)), (tuple, len(arguments[0])))
+                    for part in shares:
+                        self.check(part)
 
     def test_of_nought_and_of_whole_ones(self):
         self.assertEqual(chance((0, 6), 0), (0, 1))
@@ -169,6 +213,13 @@ class TestFractions(unittest.TestCase):
         self.assertEqual(counts_chance((0, 6), 2, (0, 5)), (1, 1))
         self.assertEqual(next_shares((0, 6), 2, (0, 5)), ((0, 1), (1, 1)))
         self.assertEqual(rest(2, ((2, 0), (1, 1))), ((1, 1), (0, 1)))
+        self.assertEqual(first_drawn((0, 6), POLYA, 1, 2), [(1, 1), (0, 1)])
+        self.assertEqual(not_drawn((0, 6), POLYA, 0, 2), (1, 1))
+        self.assertEqual(not_drawn((0, 6), POLYA, 1, 2), (0, 1))
+        self.assertEqual(all_drawn((0, 6), POLYA, 2), (1, 1))
+        self.assertEqual(all_drawn((2, 6), POLYA, 1), (0, 1))
+        self.assertEqual(two_stands((4, 6), (2, 2), square(2, 2), 2), [((6, 8), (4, 4), (1, 1))])
+        self.assertEqual(two_shares((0, 6), (0, 4), POLYA, 2), (((0, 1), (1, 1)), ((0, 1), (1, 1))))
 
 
 if __name__ == "__main__":
